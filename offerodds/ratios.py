@@ -1,0 +1,18 @@
+"""Fractions: a list of two, above and below the line, in lowest terms."""
+
+
+def common_divisor(first, second):
+    while second != 0:
+        rest = first % second
+        first = second
+        second = rest
+    return first
+
+
+def lowest(above, below):
+    divisor = common_divisor(above, below)
+    return [above // divisor, below // divisor]
+
+
+def plus(one, other):
+    return lowest(one[0] * other[1] + other[0] * one[1], one[1] * other[1])
