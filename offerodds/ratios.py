@@ -12,7 +12,3 @@ def common_divisor(first, second):
 def lowest(above, below):
     divisor = common_divisor(above, below)
     return [above // divisor, below // divisor]
-
-
-def plus(one, other):
-    return lowest(one[0] * other[1] + other[0] * one[1], one[1] * other[1])

@@ -1,7 +1,14 @@
-"""Builds calls by their names, hands them in and parts what is answered."""
+"""Builds calls by their names, hands them in and parts what is answered.
+
+Also tells from all worlds, one by one, what should be answered.
+"""
+
+from fractions import Fraction
+from random import Random
 
 from offerodds.offers import answers
 
+GREAT = 10 ** 18
 WORKED = (
     "measures price down, size up ; item a : 10, 5 ; item b : 8, 3 ; "
     "item c : 12, 9 ; item d : 12, 5 ; item e : 8, 3 ;"
@@ -89,3 +96,90 @@ def listed(turns, rows):
     for k, row in enumerate(rows):
         lines.append(f"item i{k} : {', '.join(str(value) for value in row)} ;")
     return "".join(line + "\n" for line in lines)
+
+
+def alike(how_many):
+    """A load of items that are the same by all measures: none beats another one."""
+    return load(listed(["up", "down"], [[7, 7]] * how_many))
+
+
+def ask_many(ahead, calls):
+    """The answer of each call, each behind the same calls; 20 at most go in at a time."""
+    told = []
+    room = 20 - len(ahead)
+    for start in range(0, len(calls), room):
+        told.extend(ask(*ahead, *calls[start:start + room])[len(ahead):])
+    return told
+
+
+def fractions(numbers):
+    """The fractions that are told; each has to be in lowest terms."""
+    if len(numbers) != len(numbers) // 2 * 2:
+        raise AssertionError(f"half a fraction: {numbers}")
+    told = []
+    for above, below in zip(numbers[0::2], numbers[1::2]):
+        fraction = Fraction(above, below)
+        if [fraction.numerator, fraction.denominator] != [above, below]:
+            raise AssertionError(f"not in lowest terms: {above} / {below}")
+        told.append(fraction)
+    return told
+
+
+def chance(told):
+    """The one fraction behind a 1."""
+    if len(told) != 3 or told[0] != 1:
+        raise AssertionError(f"not a 1 and a fraction: {told}")
+    return fractions(told[1:])[0]
+
+
+def counted(told):
+    """The fractions behind how many they are."""
+    if 2 * told[0] != len(told) - 1:
+        raise AssertionError(f"not as many fractions as are told: {told}")
+    return fractions(told[1:])
+
+
+def beats(turns, one, other):
+    good = [a >= b if turn == "up" else a <= b for turn, a, b in zip(turns, one, other)]
+    return all(good) and one != other
+
+
+def outcomes(turns, rows, q, numerators):
+    """Each set that is ever just the unbeaten ones, a tuple, and its chance: from all worlds one by one."""
+    against = [sum(1 << j for j, other in enumerate(rows) if beats(turns, other, row)) for row in rows]
+    sums = {}
+    for world in range(1 << len(rows)):
+        weight = 1
+        for k, numerator in enumerate(numerators):
+            weight *= numerator if world >> k & 1 else q - numerator
+        if weight > 0:
+            best = tuple(k for k in range(len(rows)) if world >> k & 1 and not world & against[k])
+            sums[best] = sums.get(best, 0) + weight
+    return {best: Fraction(weight, q ** len(rows)) for best, weight in sums.items()}
+
+
+def item_chances(how_many, sets):
+    return [sum(chance for best, chance in sets.items() if k in best) for k in range(how_many)]
+
+
+def count_chances(how_many, sets):
+    return [sum(chance for best, chance in sets.items() if len(best) == k) for k in range(how_many + 1)]
+
+
+def likeliest(how_many, sets):
+    """The greatest chance, and of the sets that have it the first."""
+    greatest = max(sets.values())
+    best = [items for items, chance in sets.items() if chance == greatest]
+    # One that has an item comes before one that has not: False stands before True.
+    return greatest, min(best, key=lambda items: [k not in items for k in range(how_many)])
+
+
+def some_lists(seed, how_many, fewest=0, most=6):
+    """Lists from a fixed seed; few values, so that many are alike, and chances of 0 and of 1 among others."""
+    source = Random(seed)
+    for turn in range(how_many):
+        turns = [source.choice(["up", "down"]) for measure in range(source.randint(1, 4))]
+        rows = [[source.randint(-2, 2) for turn in turns] for item in range(source.randint(fewest, most))]
+        q = source.choice([1, 2, 2, 3, 4, 10, 60, 97, 100])
+        numerators = [source.choice([0, q, source.randint(0, q), source.randint(0, q), q // 2]) for row in rows]
+        yield turns, rows, q, numerators

@@ -2,9 +2,8 @@
 
 import unittest
 
-from tests.helper import WORKED, all_items, ask, chances, listed, load, mean, unbeaten
+from tests.helper import GREAT, WORKED, all_items, ask, chances, listed, load, mean, unbeaten
 
-GREAT = 10 ** 18
 TWO = load("measures m up;item x:1;item y:2;")
 
 

@@ -202,6 +202,15 @@ class Expressions(unittest.TestCase):
                 if not isinstance(node, ast.Attribute):
                     self.assertNotIn(name, BUILT_IN, where)
 
+    def test_parameters_and_locals_are_not_called_like_an_import_or_a_class(self):
+        for name, tree in trees():
+            tops = {bound for top in tree.body if isinstance(top, (ast.ImportFrom, ast.ClassDef))
+                    for bound in bound_names(top)}
+            for function in [node for node in ast.walk(tree) if isinstance(node, (ast.FunctionDef, ast.Lambda))]:
+                for node in ast.walk(function):
+                    if isinstance(node, (ast.arg, ast.Name)):
+                        self.assertEqual(tops & set(bound_names(node)), set(), name)
+
     def test_each_name_is_known(self):
         for name, tree in trees():
             bound = {word for node in ast.walk(tree) for word in bound_names(node)}
